@@ -1,0 +1,1 @@
+"""Folderkin: folders that devices keep alike."""
