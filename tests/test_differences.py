@@ -141,7 +141,8 @@ class WithoutIdle(unittest.TestCase):
     def test_some_lists(self):
         for text, expected in (
             ("", ""), ("a", "a"), ("!a", ""), ("!a\n!b", ""), ("a\na", "a"), ("ab\n!ab\na*", "a*"), ("a*\n!ab", "a*"),
-            ("!ab\na*", "!ab\na*"), ("!a\nb", "b"), ("a\nb\n[ab]", "a\nb"), ("[ab]\na\nb", "[ab]"), ("*a\n**\n!*", "**"),
+            ("!ab\na*", "!ab\na*"), ("!a\nb", "b"), ("a\nb\n[ab]", "a\nb"), ("[ab]\na\nb", "[ab]"),
+            ("*a\n**\n!*", "**"),
             ("a\n!**\nb", "a"), ("!a\n**\n!b", "!a\n**"), ("!/**\n*", "*"), ("!*/*\n**/**", "!*/*\n**/**"),
         ):
             self.assert_kept(text, expected)

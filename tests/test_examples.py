@@ -1,0 +1,118 @@
+"""The examples of the document's interface, as they stand."""
+
+import unittest
+
+from folderkin import errors
+
+EXAMPLES = {
+    "names": r"""
+>>> from folderkin.names import character_of, is_name, is_user_name
+>>> [is_name("a/B.txt"), is_name("a b"), is_name(""), is_user_name("a~1-2")]
+[True, False, False, False]
+>>> [character_of(47), character_of(37)]
+['/', None]
+""",
+    "patterns": r"""
+>>> from folderkin.patterns import format_patterns, leaves_out, parse_patterns
+>>> patterns = parse_patterns("# kept\n!keep.*\n\n**.[m-pt]?")
+>>> [leaves_out(patterns, name) for name in ["a/b.tm", "keep.tm", "a.tmp", "b.o/"]]
+[True, False, False, False]
+>>> format_patterns(parse_patterns("[!!cab-]"))
+raises InvalidPattern(2)
+>>> format_patterns(parse_patterns("[cab-]x***"))
+raises InvalidPattern(5)
+>>> format_patterns(parse_patterns("![dcab~]x**[-.0-9]"))
+'![a-d~]x**[-.0-9]'
+""",
+    "comparing": r"""
+>>> from folderkin.comparing import first_difference, is_relation, relation, without_idle
+>>> from folderkin.patterns import format_patterns, parse_patterns
+>>> first_difference(parse_patterns("*.o"), parse_patterns("**.o"))
+'/.o'
+>>> relation(parse_patterns("?*"), parse_patterns("*?"))
+((((1, 2),), ((0, 1, 2),), 1), (((),), ((),), 1))
+>>> format_patterns(without_idle(parse_patterns("ab\n!ab\na*")))
+'a*'
+""",
+    "content": r"""
+>>> from folderkin.content import block_bytes, is_blocks, joined, split
+>>> split([1, 2, 3, 4, 255])
+(4311876356, 511)
+>>> joined((263, 67328))
+[7, 7, 0]
+>>> is_blocks((263, 67328))
+False
+>>> block_bytes(512)
+raises InvalidBlock
+""",
+    "vectors": r"""
+>>> from folderkin.vectors import compare, join, raised
+>>> [compare(((1, 4),), ((1, 4), (3, 1))), compare(((1, 4),), ((2, 2),)), join(((1, 4), (2, 1)), ((2, 7),))]
+['less', 'apart', ((1, 4), (2, 7))]
+>>> raised(((2, 7),), 1, 9)
+((1, 9), (2, 7))
+""",
+    "entries": r"""
+>>> from folderkin.entries import copy_name, edited, key_of, winner
+>>> first = edited(None, "a", 1, 4, False, 10, (353,))
+>>> later = edited(first, "a", 2, 7, False, 3, (354,))
+>>> [later.vector, later.height, later.maker, copy_name(later)]
+[((1, 4), (2, 7)), 2, (2, 7), 'a~2-7']
+>>> other = edited(None, "a", 3, 1, False, 10, (353,))
+>>> [winner([first, other]).vector, winner([first, other, later]) == later]
+[((1, 4), (3, 1)), True]
+""",
+    "store": r"""
+>>> from folderkin.store import Store, from_durable
+>>> store = Store({"a": ([1, 2], 7)}, [])
+>>> store.append_temp("b", [5, 6])
+>>> store.place("b", 9)
+>>> [store.names(), store.read("b"), store.temp("b"), store.done()]
+[['a', 'b'], ([5, 6], 9), None, 3]
+>>> store.set_budget(1)
+>>> store.log_append([3, 4])
+raises PowerCut(4)
+>>> from_durable(store.durable()).log()
+[3]
+""",
+}
+
+
+def told(line, names):
+    """What a line of an example tells: nothing, a value, or an error."""
+    try:
+        code = compile(line, "example", "eval")
+    except SyntaxError:
+        exec(line, names)
+        return ""
+    try:
+        value = eval(code, names)
+    except errors.FolderkinError as error:
+        return f"raises {type(error).__name__}({error.place})"
+    return "" if value is None else repr(value)
+
+
+def steps_of(text):
+    """The pairs of a line and what is told for it."""
+    steps = []
+    for line in text.strip().split("\n"):
+        if line.startswith(">>> "):
+            steps.append([line[4:], ""])
+        else:
+            steps[-1][1] = line
+    return steps
+
+
+class Examples(unittest.TestCase):
+    def test_each_example(self):
+        for module, text in EXAMPLES.items():
+            names = {}
+            for line, expected in steps_of(text):
+                found = told(line, names)
+                if expected.startswith("raises ") and "(" not in expected:
+                    found = found.partition("(")[0]
+                self.assertEqual(found, expected, (module, line))
+
+    def test_each_example_tells_something(self):
+        for module, text in EXAMPLES.items():
+            self.assertGreater(len([row for row in steps_of(text) if row[1]]), 1, module)
