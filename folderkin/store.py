@@ -108,6 +108,10 @@ class Store:
         """Returns the bytes of the log."""
         return list(self._log)
 
+    def log_size(self):
+        """Returns the number of the bytes of the log."""
+        return len(self._log)
+
     def new_log(self):
         """Returns the bytes of the new log."""
         return list(self._new_log)

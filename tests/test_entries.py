@@ -2,19 +2,7 @@ import itertools
 import unittest
 
 from folderkin.entries import Entry, alike, copy_name, copy_of, edited, key_of, root_of, winner
-
-PARTS = ("name", "vector", "height", "maker", "deleted", "time", "blocks")
-
-
-def entry(**parts):
-    values = {
-        "name": "a", "vector": ((1, 4),), "height": 1, "maker": (1, 4), "deleted": False, "time": 10, "blocks": (353,)}
-    values.update(parts)
-    return Entry(*[values[part] for part in PARTS])
-
-
-def parts_of(value):
-    return tuple(getattr(value, part) for part in PARTS)
+from tests.samples import entry, parts_of
 
 
 class Entries(unittest.TestCase):

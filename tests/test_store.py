@@ -1,8 +1,8 @@
 import unittest
-from copy import deepcopy
 
 from folderkin.errors import PowerCut
 from folderkin.store import Store, from_durable
+from tests.samples import all_of
 
 
 def filled():
@@ -15,13 +15,6 @@ def filled():
     store.attic_put("b", ((1, 1), (2, 1)), [4])
     store.new_log_append([2])
     return store
-
-
-def all_of(store):
-    # Copied, so that it stays as it is even if the store returned lists of its own.
-    return deepcopy((
-        [(name, store.read(name)) for name in store.names()],
-        [(name, store.temp(name)) for name in store.temp_names()], store.attic(), store.log(), store.new_log()))
 
 
 # Each kind of call that is one write, over what is there and over what is not.
@@ -45,6 +38,7 @@ class Reading(unittest.TestCase):
         self.assertEqual(store.read("a/x"), ([], 0))
         self.assertIsNone(store.read("none"))
         self.assertEqual((store.temp_names(), store.attic(), store.log(), store.new_log()), ([], [], [9, 8], []))
+        self.assertEqual(store.log_size(), 2)
         self.assertEqual(store.done(), 0)
         self.assertIsNone(store.temp("b"))
 
@@ -195,6 +189,7 @@ class Writing(unittest.TestCase):
         self.assertIsNone(self.store.switch_log())
         self.assertEqual((self.store.log(), self.store.new_log()), ([2, 4, 5], []))
         self.assertEqual(self.store.done(), self.before + 6)
+        self.assertEqual(self.store.log_size(), 3)
         self.store.new_log_append([7])
         self.assertEqual((self.store.log(), self.store.new_log()), ([2, 4, 5], [7]))
         self.assertIsNone(self.store.drop_new_log())
