@@ -75,6 +75,78 @@ raises PowerCut(4)
 >>> from_durable(store.durable()).log()
 [3]
 """,
+    "book": r"""
+>>> from folderkin.book import Book, record_of, upto_record
+>>> from folderkin.entries import Entry
+>>> from folderkin.store import Store
+>>> upto_record(3, 258)
+[0, 6, 2, 3, 0, 0, 1, 2, 15, 81]
+>>> store = Store({}, upto_record(3, 258) + [0, 9])
+>>> book = Book(store)
+>>> [book.upto(3), book.put(Entry("a", ((1, 1),), 1, (1, 1), True, 5, ())), book.next_number(), store.new_log()]
+[258, 1, 2, []]
+""",
+    "coding": r"""
+>>> from folderkin.coding import Reader, number_bytes, vector_bytes
+>>> vector_bytes(((2, 1), (5, 258)))
+[2, 2, 0, 0, 0, 1, 5, 0, 0, 1, 2]
+>>> Reader([7, 0, 0, 1, 0, 3, 97, 98, 99], 1).number()
+256
+>>> Reader([0, 0, 0, 0]).number(1)
+raises InvalidBytes(3)
+>>> Reader([3, 97, 32, 98]).name()
+raises InvalidBytes(2)
+""",
+    "letters": r"""
+>>> from folderkin.letters import decode, decode_all, encode
+>>> encode(("request", "a/b", 2, 263))
+[4, 3, 97, 47, 98, 2, 1, 7]
+>>> decode([5, 2, 0, 9, 1, 8])
+('block', 65545, (8,))
+>>> decode([3, 0, 0, 0, 4, 0, 0, 0, 4, 0, 0])
+('entries', 4, 4, ())
+>>> decode([1, 3, 0])
+raises InvalidBytes(2)
+>>> decode_all([1, 3, 6, 1, 0])
+[('hello', 3), ('refused', 256)]
+""",
+    "lines": r"""
+>>> from folderkin.lines import Lines
+>>> lines = Lines(3)
+>>> [lines.send(1, 2, [5]), lines.send(1, 2, [6, 7]), lines.double(1, 2, 0), lines.swap(1, 2, 1)]
+[True, True, True, True]
+>>> [lines.waiting(1, 2), lines.take(1, 2, 2), lines.take(2, 1, 0)]
+[[[5], [5], [6, 7]], [6, 7], None]
+>>> lines.cut(2, 1)
+>>> [lines.send(2, 1, []), lines.take(1, 2, 0), lines.connected(), lines.total("lost"), lines.total("waiting")]
+[False, None, True, 1, 2]
+""",
+    "pulling": r"""
+>>> from folderkin.content import split
+>>> from folderkin.entries import Entry
+>>> from folderkin.pulling import Pull, missing
+>>> from folderkin.store import Store
+>>> store = Store({"old": ([1, 2, 3, 4, 9], 1)}, [])
+>>> entry = Entry("new", ((2, 1),), 1, (2, 1), False, 6, split([1, 2, 3, 4, 5, 6, 7, 8, 1, 2, 3, 4]))
+>>> missing(store, entry) == list(split([5, 6, 7, 8]))
+True
+>>> pull = Pull(store, entry)
+>>> [pull.advance() == split([5, 6, 7, 8])[0], pull.count(), pull.give(split([5, 6, 7, 8])[0], [5, 6, 7, 8]), pull.advance(), pull.count()]
+[True, 1, True, None, 3]
+>>> pull.place()
+>>> store.read("new")
+([1, 2, 3, 4, 5, 6, 7, 8, 1, 2, 3, 4], 6)
+""",
+    "attic": r"""
+>>> from folderkin.attic import Rule, keep, kept
+>>> from folderkin.store import Store
+>>> store = Store({}, [])
+>>> rule = Rule(2, 5)
+>>> [keep(store, rule, "a", ((1, 1),), [7, 7]), keep(store, rule, "a", ((1, 2),), [8]), keep(store, rule, "b", ((1, 3),), [9, 9, 9])]
+[[], [], [('a', ((1, 1),), [7, 7])]]
+>>> kept(store, "a")
+[(((1, 2),), [8])]
+""",
 }
 
 

@@ -3,6 +3,7 @@
 import ast
 import builtins
 import pathlib
+import re
 import unittest
 
 PACKAGE = pathlib.Path(__file__).resolve().parent.parent / "folderkin"
@@ -24,6 +25,9 @@ BARRED = (
     ast.GeneratorExp, ast.Set, ast.SetComp, ast.Yield, ast.YieldFrom, ast.Await, ast.Global, ast.Pow, ast.Div,
     ast.AnnAssign, ast.NamedExpr)
 WORDS = {"register", "mro", "elements", "open", "input", "law", "type", "eval", "exec", "dir", "id", "vars", "os"}
+BEGINNINGS = re.compile(
+    r"_(wall|pe_|dcw_|enum_|cm_|twin_re_|lay_|law_|stub_|sre|WallAttr)"
+    r"|_(cold|tuplegetter|outside|record|written_out|member_names)[0-9_]*$")
 
 INTERFACE = {
     "errors": ["PowerCut", "InvalidBlock", "InvalidPattern", "InvalidBytes", "InvalidScript", "FolderkinError"],
@@ -35,6 +39,14 @@ INTERFACE = {
     "vectors": ["count_of", "compare", "join", "raised", "counts_of"],
     "entries": ["Entry", "edited", "alike", "key_of", "winner", "root_of", "copy_name", "copy_of"],
     "store": ["Store", "from_durable"],
+    "coding": ["number_bytes", "name_bytes", "vector_bytes", "entry_bytes", "Reader"],
+    "book": ["record_of", "intent_record", "peer_record", "upto_record", "read_log", "Book"],
+    "scanning": ["agrees", "own_entry", "scan_name", "scan"],
+    "letters": ["encode", "decode", "decode_all"],
+    "lines": ["Lines"],
+    "choosing": ["known", "wanted", "needed", "steps_for"],
+    "pulling": ["near_places", "holds_block", "kept_blocks", "missing", "Pull"],
+    "attic": ["Rule", "keep", "tidy", "let_go", "kept", "size_of"],
 }
 METHODS_OF = {
     ("patterns", "Pattern"): ["__init__", "__eq__"],
@@ -43,6 +55,15 @@ METHODS_OF = {
         "__init__", "set_budget", "done", "names", "read", "write", "remove", "rename", "temp_names", "temp",
         "append_temp", "cut_temp", "place", "attic", "attic_put", "attic_drop", "log", "new_log", "log_append",
         "new_log_append", "drop_new_log", "switch_log", "durable"],
+    ("coding", "Reader"): ["__init__", "byte", "number", "device", "name", "vector", "block", "entry"],
+    ("book", "Book"): [
+        "__init__", "names", "own", "next_number", "put", "behind", "all_names", "intents", "intent", "intend",
+        "peer_devices", "peer_names", "peer", "peer_entries", "put_peer", "upto", "put_upto", "needed", "compact"],
+    ("lines", "Lines"): [
+        "__init__", "is_joined", "cut", "join", "send", "waiting", "take", "drop", "double", "swap", "total",
+        "reached_from", "connected"],
+    ("pulling", "Pull"): ["__init__", "count", "is_whole", "advance", "give", "place"],
+    ("attic", "Rule"): ["__init__", "__eq__"],
 }
 
 
@@ -147,6 +168,40 @@ class Language(unittest.TestCase):
                     self.assertNotIn(node.arg, taken, path)
                 if isinstance(node, ast.Name) and not isinstance(node.ctx, ast.Load):
                     self.assertNotIn(node.id, taken, path)
+
+    def test_no_barred_beginnings(self):
+        for path, node in nodes():
+            for name in [getattr(node, part, None) for part in ("id", "attr", "name", "arg")]:
+                if isinstance(name, str):
+                    self.assertIsNone(BEGINNINGS.match(name), (path, name))
+
+    def test_no_files_import_from_each_other(self):
+        behind = {path.stem: set() for path in FILES}
+        for path, node in nodes():
+            if isinstance(node, ast.ImportFrom):
+                behind[path.stem].add(node.module.partition(".")[2])
+        while behind:
+            free = [module for module in behind if not behind[module] & set(behind)]
+            self.assertNotEqual(free, [], behind)
+            for module in free:
+                del behind[module]
+
+    def test_no_name_is_a_method_and_an_attribute_of_a_class(self):
+        for path, node in nodes():
+            if isinstance(node, ast.ClassDef):
+                stored = {
+                    part.attr for part in ast.walk(node) if isinstance(part, ast.Attribute)
+                    and isinstance(part.ctx, ast.Store) and ast.unparse(part.value) == "self"}
+                self.assertEqual(stored & set(defined(node.body)), set(), (path, node.name))
+                self.assertEqual(len(defined(node.body)), len(set(defined(node.body))), (path, node.name))
+
+    def test_sets_are_not_iterated(self):
+        for path, node in nodes():
+            if isinstance(node, (ast.For, ast.comprehension)):
+                self.assertNotRegex(ast.unparse(node.iter), r"^(set|frozenset)\(", path)
+            if isinstance(node, ast.Call) and ast.unparse(node.func) in ("list", "tuple", "sum", "min", "max"):
+                for argument in node.args:
+                    self.assertNotRegex(ast.unparse(argument), r"^(set|frozenset)\(", path)
 
     def test_methods(self):
         own = {node.name for _, node in nodes() if isinstance(node, ast.FunctionDef)}
