@@ -19,7 +19,12 @@ def wanted(book, name):
 
 def needed(book):
     """Returns the ascending list of the needed names."""
-    return [name for name in book.all_names() if own_entry(book, name) != wanted(book, name)]
+    return [name for name in book.all_names() if is_needed(book, name)]
+
+
+def is_needed(book, name):
+    """Returns True if a name is needed, otherwise False."""
+    return own_entry(book, name) != wanted(book, name)
 
 
 def steps_for(book, name):

@@ -12,7 +12,7 @@ TREES = {path: ast.parse(path.read_text(encoding="utf-8")) for path in FILES}
 
 BUILTINS = set(
     "len range enumerate zip min max sum abs sorted reversed int str bool list tuple dict set frozenset isinstance "
-    "ord repr any all divmod pow ValueError KeyError ZeroDivisionError NotImplementedError".split())
+    "ord repr any all divmod pow super ValueError KeyError ZeroDivisionError NotImplementedError".split())
 METHODS = set(
     "append clear copy count endswith extend find get index insert isalnum isalpha isdigit islower isspace isupper "
     "items join keys ljust lower lstrip partition pop remove replace reverse rfind rjust rpartition rsplit rstrip "
@@ -47,7 +47,14 @@ INTERFACE = {
     "choosing": ["known", "wanted", "needed", "steps_for"],
     "pulling": ["near_places", "holds_block", "kept_blocks", "missing", "Pull"],
     "attic": ["Rule", "keep", "tidy", "let_go", "kept", "size_of"],
+    "devices": ["Device"],
+    "worlds": ["World", "are_alike"],
+    "judging": ["fates", "judge_fates", "reasons", "judge_winner", "unlike"],
+    "sealing": ["is_key", "seal_name", "seal_content", "seal_entry", "seal_letter", "open_name", "open_content",
+                "open_entry", "open_letter", "Guest"],
 }
+DEVICE = ["__init__", "leaves_out", "scan", "hear", "ask", "needed", "work"]
+WORLD = ["__init__", "obey", "user_edits", "history"]
 METHODS_OF = {
     ("patterns", "Pattern"): ["__init__", "__eq__"],
     ("entries", "Entry"): ["__init__", "__eq__"],
@@ -64,6 +71,9 @@ METHODS_OF = {
         "reached_from", "connected"],
     ("pulling", "Pull"): ["__init__", "count", "is_whole", "advance", "give", "place"],
     ("attic", "Rule"): ["__init__", "__eq__"],
+    ("devices", "Device"): DEVICE,
+    ("worlds", "World"): WORLD,
+    ("sealing", "Guest"): ["__init__", "ask", "hear", "work", "needed", "names", "read", "own"],
 }
 
 
@@ -106,7 +116,9 @@ class Language(unittest.TestCase):
     def test_imports(self):
         for path, node in nodes():
             self.assertNotIsInstance(node, ast.Import, path)
-            if isinstance(node, ast.ImportFrom):
+            if isinstance(node, ast.ImportFrom) and node.module == "math":
+                self.assertEqual([(name.name, name.asname) for name in node.names], [("gcd", None)], path)
+            elif isinstance(node, ast.ImportFrom):
                 self.assertTrue(node.module.startswith("folderkin.") and node.level == 0, path)
                 body = TREES[PACKAGE / (node.module.partition(".")[2] + ".py")].body
                 found = defined(body) + [item.targets[0].id for item in body if isinstance(item, ast.Assign)]
@@ -178,7 +190,7 @@ class Language(unittest.TestCase):
     def test_no_files_import_from_each_other(self):
         behind = {path.stem: set() for path in FILES}
         for path, node in nodes():
-            if isinstance(node, ast.ImportFrom):
+            if isinstance(node, ast.ImportFrom) and node.module != "math":
                 behind[path.stem].add(node.module.partition(".")[2])
         while behind:
             free = [module for module in behind if not behind[module] & set(behind)]
@@ -186,14 +198,38 @@ class Language(unittest.TestCase):
             for module in free:
                 del behind[module]
 
+    def test_no_method_is_read_off_a_class_by_its_name(self):
+        # Some names are methods of one class and attributes of another one (Reader.number, Device.number).
+        classes = {node.name for _, node in nodes() if isinstance(node, ast.ClassDef)}
+        for path, node in nodes():
+            if isinstance(node, ast.Attribute):
+                self.assertNotIn(ast.unparse(node.value), classes, path)
+
+    def test_super_stands_directly_in_methods_as_a_call(self):
+        # Each super() is called at once, and not within a comprehension or a lambda.
+        for path, node in nodes():
+            inner = [part for part in ast.walk(node) if isinstance(part, ast.Name) and part.id == "super"]
+            if isinstance(node, (ast.ListComp, ast.DictComp, ast.Lambda)):
+                self.assertEqual(inner, [], path)
+            if isinstance(node, ast.FunctionDef):
+                told = [ast.unparse(part.func) for part in ast.walk(node) if isinstance(part, ast.Call)]
+                self.assertEqual(len([name for name in told if name.startswith("super().")]), len(inner), path)
+
     def test_no_name_is_a_method_and_an_attribute_of_a_class(self):
+        families = []
         for path, node in nodes():
             if isinstance(node, ast.ClassDef):
                 stored = {
                     part.attr for part in ast.walk(node) if isinstance(part, ast.Attribute)
                     and isinstance(part.ctx, ast.Store) and ast.unparse(part.value) == "self"}
                 self.assertEqual(stored & set(defined(node.body)), set(), (path, node.name))
+                families.append((node.name, [base.id for base in node.bases], stored, set(defined(node.body))))
                 self.assertEqual(len(defined(node.body)), len(set(defined(node.body))), (path, node.name))
+
+        for name, bases, stored, methods in families:
+            for above, _, stored_above, methods_above in families:
+                if above in bases:
+                    self.assertEqual((stored & methods_above, stored_above & methods), (set(), set()), name)
 
     def test_sets_are_not_iterated(self):
         for path, node in nodes():
