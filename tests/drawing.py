@@ -3,7 +3,9 @@
 from itertools import combinations
 
 from folderkin.attic import Rule
+from folderkin.content import split
 from folderkin.entries import alike, key_of
+from folderkin.scanning import agrees, own_entry
 from folderkin.vectors import compare
 from folderkin.worlds import World
 
@@ -88,6 +90,18 @@ def set_budgets(world, count=None):
 def files_of(device):
     """The contents of the files of a device."""
     return {name: device.store.read(name)[0] for name in device.store.names()}
+
+
+def is_kept(world, entry):
+    """Point 14.5 (1), for an entry that is not deleted."""
+    for device in world.devices:
+        for name in device.store.names():
+            if split(device.store.read(name)[0]) == entry.blocks:
+                if agrees(device.store, own_entry(device.book, name), name):
+                    return True
+        if any(split(content) == entry.blocks for _, _, content in device.store.attic()):
+            return True
+    return any(blocks == entry.blocks for _, _, blocks in world.user_edits())
 
 
 def assert_entries(test, world):

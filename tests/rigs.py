@@ -80,6 +80,8 @@ def all_seen(value):
         return [state(device) for device in value.devices], lines, totals, shown(value.history()), value.user_edits()
     if isinstance(value, Device):
         return state(value)
+    if isinstance(value, Store):
+        return all_of(value), value.done()
     if isinstance(value, (list, tuple)):
         return type(value)(all_seen(item) for item in value)
     return shown(value)

@@ -172,6 +172,48 @@ True
 >>> [seal_name("a", key), open_name("b~1-2", key), seal_content([7], key)]
 ['b', 'a~1-2', [8]]
 """,
+    "scripts": r"""
+>>> from folderkin.scripts import format_script, parse_script, run_script
+>>> script = parse_script("# two\nworld 2 3 100\nleave 2 *.o\nedit 1 a 0aff 7\nedit 2 a~1-1 - 8\nround 9")
+>>> [script.count, script.commands[0], script.commands[2]]
+[2, ('edit', 1, 'a', (10, 255), 7), ('round', 9)]
+>>> run_script(script)[1]
+[None, False, 1]
+>>> format_script(script) == "world 2 3 100\nleave 2 *.o\nedit 1 a 0aff 7\nedit 2 a~1-1 - 8\nround 9"
+True
+>>> parse_script("world 2 3 100\n\nask 1 1")
+raises InvalidScript(2)
+""",
+    "explaining": r"""
+>>> from folderkin.entries import edited
+>>> from folderkin.explaining import gone, story
+>>> first = edited(None, "a", 1, 1, False, 10, (353,))
+>>> later = edited(first, "a", 1, 2, False, 12, ())
+>>> history = [(1, "edit", None, first), (1, "edit", first, later)]
+>>> [story(history, later), gone(history, 0), gone(history, 1)]
+[[1, 0], ('edit', 1), ('stays', -1)]
+""",
+    "counting": r"""
+>>> from folderkin.counting import judge_share, share
+>>> offers = {256: (1, 2), 257: (1,), 258: (1,), 259: (2, 3)}
+>>> share(offers)[:2]
+(2, ((256, 2), (257, 1), (258, 1), (259, 2)))
+>>> judge_share(offers, (2, ((256, 2), (257, 1), (258, 1), (259, 3)), (257, 258)))
+True
+""",
+    "oneway": r"""
+>>> from folderkin.attic import Rule
+>>> from folderkin.oneway import OneWayWorld
+>>> world = OneWayWorld(["sender", "receiver"], Rule(3, 100), [[], []])
+>>> world.obey(("edit", 1, "a", (1, 2, 3), 10))
+>>> world.obey(("round", 20))
+1
+>>> world.obey(("edit", 2, "a", (9,), 30))
+>>> [world.obey(("round", 40)), world.devices[1].strange(), world.devices[0].differing()]
+[0, ['a'], []]
+>>> [world.obey(("revert", 2)), world.obey(("round", 50)), world.devices[1].store.read("a")]
+[1, 1, ([1, 2, 3], 10)]
+""",
 }
 
 

@@ -71,6 +71,10 @@ class Talk:
                         self.letters += [letter, answer]
                         self.let(number, "hear", other, answer)
 
+    def own(self, number, name):
+        member = self.members[number]
+        return member.own(name) if isinstance(member, Guest) else member.book.own(name)[0]
+
     def files(self, number):
         member = self.members[number]
         store = member.store if isinstance(member, Device) else member
@@ -212,8 +216,7 @@ class Among(unittest.TestCase):
                         files = talk.files(number)
                         self.assertEqual({name: files[name][0] for name in files}, contents, (word, guests, seed))
                         for name in talk.members[1].book.names():
-                            told = talk.members[number].own(name) if number in guests else talk.members[number].book.own(name)[0]
-                            self.assertEqual(shown(told), shown(talk.members[1].book.own(name)[0]))
+                            self.assertEqual(shown(talk.own(number, name)), shown(talk.own(1, name)))
                     for number in guests:
                         self.assert_sealed(talk.members[number], CONTENTS)
 

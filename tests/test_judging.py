@@ -6,6 +6,7 @@ import unittest
 from copy import deepcopy
 
 from folderkin.attic import Rule
+from folderkin.content import joined
 from folderkin.entries import alike, edited, key_of, winner
 from folderkin.judging import fates, judge_fates, judge_winner, reasons, unlike
 from folderkin.worlds import World, are_alike
@@ -44,7 +45,8 @@ class Fates(unittest.TestCase):
         self.assert_fates(world, ("stands", 2, "b"))
         # The least device, and its least name: also that of another file.
         for command, fate in (
-                (("edit", 2, "B", tuple(A), 1), ("stands", 2, "B")), (("edit", 1, "x", tuple(A), 1), ("stands", 1, "x"))):
+                (("edit", 2, "B", tuple(A), 1), ("stands", 2, "B")),
+                (("edit", 1, "x", tuple(A), 1), ("stands", 1, "x"))):
             world.obey(command)
             self.assertNotEqual(fates(world)[0], fate)
             world.obey(("scan", command[1], 3))
@@ -192,7 +194,7 @@ class JudgingFates(unittest.TestCase):
         if fate[1] > len(world.devices):
             return False
         device = world.devices[fate[1] - 1]
-        content = [byte for block in value.blocks for byte in block.to_bytes(5, "big")[5 - (block.bit_length() - 1) // 8:]]
+        content = joined(value.blocks)
         if fate[0] == "attic":
             return [row[2] for row in device.store.attic()][fate[2]:fate[2] + 1] == [content]
         file, pair = device.store.read(fate[2]), device.book.own(fate[2])
@@ -303,11 +305,13 @@ class JudgingReasons(unittest.TestCase):
         row = reasons(entries)[1][0]
         self.assertEqual(row[1], 5)
         self.assertIs(judge_winner(entries, winner(entries), (1, (row, ("alike",)))), True)
-        self.assertIs(judge_winner(entries, winner(entries), (1, ((*row[:2], list(row[2]), row[3]), ("alike",)))), False)
+        listed = (*row[:2], list(row[2]), row[3])
+        self.assertIs(judge_winner(entries, winner(entries), (1, (listed, ("alike",)))), False)
 
     def test_other_values(self):
-        for paper in OTHERS + ((0,), (0, self.ROWS, 0), [0, self.ROWS], ("0", self.ROWS), (None, self.ROWS), (0.0, self.ROWS),
-                               (self.ROWS, 0), {0: self.ROWS}, ((0,), self.ROWS)):
+        for paper in OTHERS + (
+                (0,), (0, self.ROWS, 0), [0, self.ROWS], ("0", self.ROWS), (None, self.ROWS), (0.0, self.ROWS),
+                (self.ROWS, 0), {0: self.ROWS}, ((0,), self.ROWS)):
             self.assertIs(self.judged(paper), False, paper)
 
     def test_the_papers_of_other_entries(self):

@@ -52,6 +52,11 @@ INTERFACE = {
     "judging": ["fates", "judge_fates", "reasons", "judge_winner", "unlike"],
     "sealing": ["is_key", "seal_name", "seal_content", "seal_entry", "seal_letter", "open_name", "open_content",
                 "open_entry", "open_letter", "Guest"],
+    "scripts": ["Script", "format_script", "parse_script", "run_script"],
+    "explaining": ["number_of", "made_by", "story", "judge_story", "carriers", "gone"],
+    "counting": ["must_come", "share", "judge_share"],
+    "status": ["state_of", "states", "lacking", "summary"],
+    "oneway": ["Sender", "Receiver", "OneWayWorld"],
 }
 DEVICE = ["__init__", "leaves_out", "scan", "hear", "ask", "needed", "work"]
 WORLD = ["__init__", "obey", "user_edits", "history"]
@@ -74,6 +79,10 @@ METHODS_OF = {
     ("devices", "Device"): DEVICE,
     ("worlds", "World"): WORLD,
     ("sealing", "Guest"): ["__init__", "ask", "hear", "work", "needed", "names", "read", "own"],
+    ("scripts", "Script"): ["__init__", "__eq__"],
+    ("oneway", "Sender"): DEVICE + ["differing", "override"],
+    ("oneway", "Receiver"): DEVICE + ["strange", "revert"],
+    ("oneway", "OneWayWorld"): WORLD,
 }
 
 

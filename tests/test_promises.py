@@ -4,26 +4,12 @@ import random
 import unittest
 from unittest import mock
 
-from folderkin.content import split
 from folderkin.devices import Device
 from folderkin.judging import fates, judge_fates
 from folderkin.pulling import Pull, missing, near_places
-from folderkin.scanning import agrees, own_entry
 from folderkin.worlds import World, are_alike
-from tests.drawing import assert_entries, assert_quiet, drawn_command, drawn_rule, drawn_world, join_all
+from tests.drawing import assert_entries, assert_quiet, drawn_command, drawn_rule, drawn_world, is_kept, join_all
 from tests.drawing import set_budgets, thin_out
-
-
-def is_kept(world, entry):
-    """Point 14.5 (1), for an entry that is not deleted."""
-    for device in world.devices:
-        for name in device.store.names():
-            if split(device.store.read(name)[0]) == entry.blocks:
-                if agrees(device.store, own_entry(device.book, name), name):
-                    return True
-        if any(split(content) == entry.blocks for _, _, content in device.store.attic()):
-            return True
-    return any(blocks == entry.blocks for _, _, blocks in world.user_edits())
 
 
 class Kept(unittest.TestCase):

@@ -100,7 +100,8 @@ class Keys(unittest.TestCase):
                 self.assertIs(is_key(NONE[:at] + (value,) + NONE[at + 1:]), False, (at, value))
 
     def test_other_values(self):
-        for value in (None, 0, 8, True, "", "00000000", [], list(NONE), dict(enumerate(NONE)), set(range(8)), b"00000000"):
+        for value in (
+                None, 0, 8, True, "", "00000000", [], list(NONE), dict(enumerate(NONE)), set(range(8)), b"00000000"):
             self.assertIs(is_key(value), False, value)
 
 
@@ -116,7 +117,8 @@ class Factors(unittest.TestCase):
 
     def test_what_a_name_is_multiplied_by(self):
         # With the first factor alone: one digit is multiplied by it, modulo 66.
-        for number, times in [(at, UNITS[at]) for at in range(20)] + [(20, 67), (21, 71), (LARGEST, 66 * 214748364 + 49)]:
+        factors = [(at, UNITS[at]) for at in range(20)] + [(20, 67), (21, 71), (LARGEST, 66 * 214748364 + 49)]
+        for number, times in factors:
             key = (number,) + NONE[1:]
             for digit in (0, 1, 2, 33, 65):
                 self.assertEqual(seal_name(ROOT[digit], key), ROOT[digit * times % 66])
