@@ -8,24 +8,29 @@ from folderkin.values import is_index, is_integer
 
 def fates(world):
     """Returns the list of the fates of the new entries of all rows of the history, in order."""
-    return [_fate(world, row[3]) for row in world.history()]
+    found = _first_places(world)
+    return [_fate(row[3], found) for row in world.history()]
 
 
-def _fate(world, entry):
-    if entry.deleted:
-        return ("removed",)
+def _fate(entry, found):
+    return ("removed",) if entry.deleted else found.get(entry.blocks, ("lost",))
+
+
+def _first_places(world):
+    """Returns a dict from the blocks of contents to the first fate that is so for them."""
+    found = {}
     for device in world.devices:
         for name in device.store.names():
-            if _stands(device, name, entry):
-                return "stands", device.number, name
+            entry = own_entry(device.book, name)
+            # The file is there, so what agrees with it is an entry that is not deleted.
+            if agrees(device.store, entry, name):
+                found.setdefault(entry.blocks, ("stands", device.number, name))
     for index, row in enumerate(world.user_edits()):
-        if row[2] == entry.blocks:
-            return "replaced", index
+        found.setdefault(row[2], ("replaced", index))
     for device in world.devices:
         for index, row in enumerate(device.store.attic()):
-            if split(row[2]) == entry.blocks:
-                return "attic", device.number, index
-    return ("lost",)
+            found.setdefault(split(row[2]), ("attic", device.number, index))
+    return found
 
 
 def _stands(device, name, entry):
