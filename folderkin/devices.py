@@ -3,7 +3,7 @@
 from folderkin.attic import keep
 from folderkin.book import Book
 from folderkin.changes import Changes
-from folderkin.choosing import is_needed, needed, steps_for
+from folderkin.choosing import is_needed, steps_for
 from folderkin.content import block_bytes
 from folderkin.entries import alike, copy_name, copy_of, root_of
 from folderkin.patterns import leaves_out
@@ -91,7 +91,7 @@ class Device:
 
     def needed(self):
         """Returns the ascending list of the needed names that are not left out."""
-        return [name for name in needed(self.book) if not self.leaves_out(name)]
+        return [name for name in self.book.all_names() if self._is_needed(name)]
 
     def _is_needed(self, name):
         return is_needed(self.book, name) and not self.leaves_out(name)
@@ -101,7 +101,7 @@ class Device:
         letters = []
         self._work_ahead(peers, letters)
         for name in self._in_turn():
-            # Another name's turn may have made a copy, or scanned the file of one.
+            # The names were found at the beginning; other names were taken since.
             if self._is_needed(name):
                 self._take(name, peers, now, letters)
         return letters

@@ -46,7 +46,7 @@ def judge_story(history, entry, paper):
         if not alike(after, turn):
             return False
         turn = before
-    return len(paper) > 0 and turn is None
+    return turn is None
 
 
 def carriers(history, maker):

@@ -94,7 +94,7 @@ def judge_winner(entries, entry, paper):
 
 
 def _takes_reason(row, reason):
-    if not isinstance(row, tuple) or row != reason:
+    if row != reason:
         return False
     # True is equal to 1, but it is no index of a part.
     return len(row) == 1 or is_integer(row[1])

@@ -2,8 +2,8 @@
 
 from math import gcd
 
-BYTES = 256
-CHARS = 66
+BYTE_BASE = 256
+NAME_BASE = 66
 
 
 def mixed(digits, base, key):
@@ -27,7 +27,7 @@ def unmixed(digits, base, key):
 
 def factor(number, base):
     """Returns the factor of a number of the key, which has no divisor in common with the base."""
-    if base == BYTES:
+    if base == BYTE_BASE:
         return 2 * number + 1
     units = [unit for unit in range(1, base) if gcd(unit, base) == 1]
     return base * (number // len(units)) + units[number % len(units)]

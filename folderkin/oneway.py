@@ -102,8 +102,7 @@ class Receiver(Device):
 
     def needed(self):
         """Returns the ascending list of the needed names that are neither left out nor strange."""
-        names = super().needed()
-        return [name for name in names if not self._is_strange(name)]
+        return super().needed()
 
     def _is_needed(self, name):
         return super()._is_needed(name) and not self._is_strange(name)

@@ -2,7 +2,7 @@
 
 from folderkin.content import block_bytes, block_number, joined, split
 from folderkin.entries import Entry, root_of
-from folderkin.mixing import BYTES, CHARS, mixed, unmixed
+from folderkin.mixing import BYTE_BASE, NAME_BASE, mixed, unmixed
 from folderkin.names import CHARACTERS
 from folderkin.scanning import own_entry
 from folderkin.values import is_integer
@@ -21,13 +21,13 @@ def is_key(value):
 def seal_name(name, key):
     """Returns the sealed name."""
     root = root_of(name)
-    return _name_of(mixed(_digits_of(root), CHARS, key)) + name[len(root):]
+    return _name_of(mixed(_digits_of(root), NAME_BASE, key)) + name[len(root):]
 
 
 def open_name(name, key):
     """Returns the name that was sealed."""
     root = root_of(name)
-    return _name_of(unmixed(_digits_of(root), CHARS, key)) + name[len(root):]
+    return _name_of(unmixed(_digits_of(root), NAME_BASE, key)) + name[len(root):]
 
 
 def _digits_of(root):
@@ -40,11 +40,11 @@ def _name_of(digits):
 
 
 def _seal_blocks(blocks, key):
-    return tuple([block_number(mixed(block_bytes(block), BYTES, key)) for block in blocks])
+    return tuple([block_number(mixed(block_bytes(block), BYTE_BASE, key)) for block in blocks])
 
 
 def _open_blocks(blocks, key):
-    return tuple([block_number(unmixed(block_bytes(block), BYTES, key)) for block in blocks])
+    return tuple([block_number(unmixed(block_bytes(block), BYTE_BASE, key)) for block in blocks])
 
 
 def seal_content(content, key):

@@ -144,7 +144,7 @@ class JudgingFates(unittest.TestCase):
                 ("stands", 1, ["a"]), ("stands", 1, ("a",)), ["stands", 1, "a"], ("stays", 1, "a"), "stands",
                 ("replaced",), ("replaced", 0, 0), ("replaced", "0"), ("replaced", None), ["replaced", 0],
                 ("attic", 2), ("attic", 2, 1, 1), ("attic", 2, "1"), ("attic", None, 1), ("attic", [2], 1),
-                (None, 1, "a"), (1, 2), (1, 2, 3), ("lost", 1), ("removed", 1), ("attic", 2, 1.0), ("replaced", 0.0)):
+                (None, 1, "a"), ("loft", 2, 1), (1, 2), (1, 2, 3), ("lost", 1), ("removed", 1), ("attic", 2, 1.0), ("replaced", 0.0)):
             self.assertIs(self.judged(fate), False, fate)
 
     def test_truth_values(self):

@@ -226,8 +226,10 @@ class Reverting(unittest.TestCase):
         receiver, _ = self.reverted({"a": C}, [own(has(A)), peer(2, best)])
         self.assertEqual((receiver.store.names(), receiver.store.attic()), ([], [("a", (), C)]))
         self.assert_rows(receiver, ("take", has(A), best))
-        receiver, _ = self.reverted({"a": C}, [own(gone()), peer(2, best)])
+        # Only beginning to pull cuts a temporary file.
+        receiver, _ = self.reverted({"a": C}, [own(gone()), peer(2, best)], temps={"a": A})
         self.assert_rows(receiver, ("join", gone(), winner([gone(), best])))
+        self.assertEqual(receiver.store.temp("a"), A)
 
     def test_removing_is_a_write_also_if_there_is_no_file(self):
         # The user removed the file; the intent, the removal and the record are writes.
@@ -287,7 +289,9 @@ class Reverting(unittest.TestCase):
         receiver = receiver_of({"a": C, "z": B}, rows)
         self.assertEqual(receiver.revert(), ["a"])
         receiver.store.write("a", A, 3)
+        before = state(receiver)
         receiver.work([2], NOW)
+        self.assertEqual((state(receiver), receiver.store.done()), (before, 1))
         receiver.store.write("a", D, 4)
         receiver.work([2], NOW)
         self.assertEqual((receiver.strange(), receiver.store.read("a")), (["a"], (D, 4)))

@@ -135,6 +135,19 @@ class Rounds(unittest.TestCase):
         self.assertEqual([world.lines.total(word) for word in ("sent", "waiting", "taken", "lost")], [1, 1, 0, 0])
 
     def test_refused_blocks_do_not_count(self):
+        # Device 1 stands between 2 and 3. Device 2 hears of its content, but 1 takes a newer one of 3 ahead of its turn.
+        world = world_of(3, [(1, 2), (2, 3)], Rule(0, 0))
+        world.obey(("edit", 1, "a", tuple(A), 3))
+        self.assertEqual(world.obey(("round", 4)), 1)
+        world.obey(("edit", 3, "a", tuple(B), 5))
+        world.obey(("join", 1, 2))
+        self.assertEqual(world.obey(("round", 6)), 1)
+        self.assertEqual([device.store.names() for device in world.devices], [["a"], [], ["a"]])
+        self.assertEqual(world.devices[1].needed(), ["a"])
+        self.assertEqual(world.obey(("round", 7)), 1)
+        self.assertTrue(all_alike(world))
+
+    def test_contents_that_are_gone(self):
         # Device 1 announced the content, but its user changed it again, and the attic keeps nothing.
         world = world_of(2, rule=Rule(0, 0))
         world.obey(("edit", 1, "a", tuple(A), 3))

@@ -250,7 +250,7 @@ class Faults(unittest.TestCase):
                 self.assertIsNone(place_of(HEAD + "\n" + line.format(name)))
 
     def test_contents(self):
-        for content in ("0", "000", "0A", "FF", "fF", "0g", "--", "-0", "0-", "", "0x", "00 00", MOST + "00",
+        for content in ("0", "1", "3", "000", "0A", "FF", "fF", "0g", "--", "-0", "0-", "", "0x", "00 00", MOST + "00",
                 MOST + "f"):
             self.assert_fault(f"edit 1 a {content} 0")
 

@@ -219,6 +219,11 @@ class Removed(TakeTest):
         self.assert_rows(device, ("take", has(A), self.BEST))
         self.assertEqual(device.book.intents(), [])
 
+    def test_the_temporary_file_stays(self):
+        device = device_of({"a": A}, [own(has(A)), peer(2, self.BEST)], temps={"a": B})
+        device.work([2], TIME)
+        self.assertEqual((device.store.names(), device.store.temp("a")), ([], B))
+
     def test_by_the_rule(self):
         device = self.build(Rule(0, 1000))
         device.work([2], TIME)

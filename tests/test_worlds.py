@@ -135,6 +135,14 @@ class Users(WorldTest):
         self.assertEqual(store(world, 1).names(), ["a", "b"])
         self.assertEqual([row[1] for row in world.user_edits()], ["a~1-1", "a~1-1"])
 
+    def test_move_to_a_name_of_a_copy(self):
+        # Users do not do so, but a world does not refuse it.
+        world = world_of()
+        self.obey(world, ("edit", 1, "a", tuple(A), 1), ("edit", 2, "a", tuple(B), 2), ("round", 3), ("round", 3))
+        self.assert_told(world, (("move", 1, "a", "a~1-1"), True), (("move", 2, "a", "b~9-9"), True))
+        self.assertEqual((store(world, 1).names(), store(world, 2).names()), (["a~1-1"], ["a~1-1", "b~9-9"]))
+        self.assertEqual(world.user_edits(), [(1, "a", (BB,)), (1, "a~1-1", (BA,)), (2, "a", (BB,))])
+
     def test_the_power_ends(self):
         for command, told in (
                 (("edit", 1, "a", (9,), 9), None), (("edit", 1, "b", (9,), 9), None), (("remove", 1, "a"), False),
@@ -294,6 +302,12 @@ class Works(WorldTest):
         self.assertEqual(letters, [("request", "a"), ("request", "b")] * 2)
         self.assertEqual(world.lines.waiting(2, 3), [])
 
+    def test_the_time_of_its_scans(self):
+        world = self.ready()
+        self.obey(world, ("round", 9), ("edit", 1, "a", (1,), 10), ("scan", 1, 10), ("ask", 2, 1), ("deliver", 2, 1, 0))
+        self.obey(world, ("deliver", 1, 2, 0), ("remove", 2, "a"), ("work", 2, 77))
+        self.assertEqual([(row[3].deleted, row[3].time) for row in world.history() if row[0] == 2][-1], (True, 77))
+
     def test_with_the_peers_of_joined_lines(self):
         world = self.ready()
         self.obey(world, ("cut", 1, 2))
@@ -437,6 +451,25 @@ class Histories(WorldTest):
                 self.assertEqual(shown(world.history()[-1]), shown(last))
         self.assertEqual(words, sorted(words))
         self.assertEqual((min(words), max(words)), (0, 1))
+
+    def test_found_with_nothing_before(self):
+        # The log stays long when the power ends while it is written anew, so the next record has it written anew, too.
+        seen = []
+        budget, full, _ = [row for row in self.found(("edit", 1, "a", (99,), 99)) if row[2]][0]
+        self.obey(full, ("edit", 1, "a", (98,), 99), ("budget", 1, budget), ("scan", 1, 100))
+        rows = full.history()
+        self.assertEqual([row[1] for row in rows[-3:]], ["edit", "found", "found"])
+        for budget in range(0, 400, 5):
+            world = deepcopy(full)
+            self.obey(world, ("edit", 1, "b", (7,), 8), ("budget", 1, budget))
+            told = world.obey(("scan", 1, 101))
+            value = edited(None, "b", 1, len(rows) + 1, False, 8, (263,))
+            for row in world.history()[len(rows):]:
+                self.assertEqual(shown(row), shown((1, row[1], None, value)))
+                seen.append(row[1])
+            if told is not None:
+                break
+        self.assertEqual(sorted(set(seen)), ["edit", "found"])
 
     def test_found_in_a_work(self):
         """A winner was placed, and its record was whole."""
