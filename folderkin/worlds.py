@@ -159,7 +159,8 @@ class World:
         """Lets a device ask a peer and hear the answer, without the line."""
         question = self.devices[number - 1].ask(peer)
         # A question is answered without a write, so the power of the peer does not end.
-        for answer in self.devices[peer - 1].hear(number, question):
+        answers = self.devices[peer - 1].hear(number, question)
+        for answer in answers:
             self._let(number, lambda device: device.hear(peer, answer))
 
     def _work_through(self, number, now):
@@ -170,7 +171,8 @@ class World:
             if not letters:
                 return blocks
             for peer, letter in letters:
-                for answer in self.devices[peer - 1].hear(number, letter):
+                answers = self.devices[peer - 1].hear(number, letter)
+                for answer in answers:
                     blocks += 1 if answer[0] == "block" else 0
                     done, _ = self._let(number, lambda device: device.hear(peer, answer))
                     if not done:
